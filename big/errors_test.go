@@ -1,6 +1,7 @@
 package big_test
 
 import (
+	"fmt"
 	"math"
 	"strings"
 	"testing"
@@ -35,6 +36,9 @@ func noNumbers() []api.Val {
 	return l
 }
 
+// shown returns a value as it is shown, though its text may be long.
+func shown(v api.Val) string { return fmt.Sprintf("{%d %d %.60q}", v.K, v.N, v.T) }
+
 func binaries() map[string]binary {
 	return map[string]binary{"Add": big.Add, "Sub": big.Sub, "Mul": big.Mul, "Div": big.Div, "Mod": big.Mod, "Gcd": big.Gcd}
 }
@@ -50,20 +54,20 @@ func TestNoTexts(t *testing.T) {
 func TestNoNumbers(t *testing.T) {
 	for _, v := range noNumbers() {
 		if errno := big.Check(v); errno != api.ErrDigit {
-			t.Errorf("Check of %.60v: %v", v, errno)
+			t.Errorf("Check of %s: %v", shown(v), errno)
 		}
 		if text, errno := big.Text(v); text != "" || errno != api.ErrDigit {
-			t.Errorf("Text of %.60v: %q, %v", v, text, errno)
+			t.Errorf("Text of %s: %q, %v", shown(v), text, errno)
 		}
 		if count, errno := big.Digits(v); count != 0 || errno != api.ErrDigit {
-			t.Errorf("Digits of %.60v: %d, %v", v, count, errno)
+			t.Errorf("Digits of %s: %d, %v", shown(v), count, errno)
 		}
 		if w, errno := big.Root(v); w != (api.Val{}) || errno != api.ErrDigit {
-			t.Errorf("Root of %.60v: %v, %v", v, w, errno)
+			t.Errorf("Root of %s: %v, %v", shown(v), w, errno)
 		}
 		for _, n := range []int{-1, 0, 1, api.MaxSteps, api.MaxSteps + 1} {
 			if w, errno := big.Pow(v, n); w != (api.Val{}) || errno != api.ErrDigit {
-				t.Errorf("Pow of %.60v and %d: %v, %v", v, n, w, errno)
+				t.Errorf("Pow of %s and %d: %v, %v", shown(v), n, w, errno)
 			}
 		}
 		for _, w := range []api.Val{whole(0), whole(-1), number(nines(400)), {}, v} {
@@ -78,11 +82,11 @@ func checkNoNumbers(t *testing.T, a, b api.Val) {
 	t.Helper()
 	for name, f := range binaries() {
 		if v, errno := f(a, b); v != (api.Val{}) || errno != api.ErrDigit {
-			t.Errorf("%s of %.60v and %.60v: %v, %v", name, a, b, v, errno)
+			t.Errorf("%s of %s and %s: %v, %v", name, shown(a), shown(b), v, errno)
 		}
 	}
 	if is, errno := big.Less(a, b); is || errno != api.ErrDigit {
-		t.Errorf("Less of %.60v and %.60v: %v, %v", a, b, is, errno)
+		t.Errorf("Less of %s and %s: %v, %v", shown(a), shown(b), is, errno)
 	}
 }
 
