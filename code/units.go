@@ -5,6 +5,7 @@ import (
 	"slices"
 
 	"proteus/api"
+	"proteus/copies"
 )
 
 // unit yields the indices of the unit of a piece of right code.
@@ -40,7 +41,7 @@ func taken(l []api.Code, at, base int) []api.Code {
 func moved(l []api.Code, to func(at int) int) []api.Code {
 	var list []api.Code
 	for _, c := range l {
-		c = copied(c)
+		c = copies.Code(c)
 		if c.Block {
 			c.Outer = to(c.Outer)
 		}
@@ -52,15 +53,6 @@ func moved(l []api.Code, to func(at int) int) []api.Code {
 		list = append(list, c)
 	}
 	return list
-}
-
-func copied(c api.Code) api.Code {
-	c.Names = slices.Clone(c.Names)
-	c.Init = slices.Clone(c.Init)
-	c.Lits = slices.Clone(c.Lits)
-	c.Sels = slices.Clone(c.Sels)
-	c.Instrs = slices.Clone(c.Instrs)
-	return c
 }
 
 func same(a, b api.Code) bool {

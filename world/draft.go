@@ -5,6 +5,7 @@ import (
 
 	"proteus/api"
 	"proteus/code"
+	"proteus/copies"
 )
 
 // index tells, by their numbers, where objects or activations stand in a list.
@@ -52,7 +53,7 @@ func openedIn(w api.World, aid int) (*draft, *api.Act, api.Errno) {
 }
 
 // own puts the draft into new memory: what it was made from stays as it is when it changes.
-func (d *draft) own() { d.World = copied(d.World) }
+func (d *draft) own() { d.World = copies.World(d.World) }
 
 func (d *draft) hasObject(oid int) bool {
 	_, ok := d.index[oid]
@@ -85,7 +86,7 @@ func (d *draft) withObject(o api.Obj) (api.World, int, api.Errno) {
 	}
 	o.Oid = d.NextObj
 	d.own()
-	d.Objs = append(d.Objs, copiedObject(o))
+	d.Objs = append(d.Objs, copies.Object(o))
 	d.NextObj++
 	return d.World, o.Oid, api.OK
 }
@@ -97,7 +98,7 @@ func (d *draft) withActivation(a api.Act) (api.World, int, api.Errno) {
 	}
 	a.Aid = d.NextAct
 	d.own()
-	d.Acts = append(d.Acts, copiedActivation(a))
+	d.Acts = append(d.Acts, copies.Activation(a))
 	d.NextAct++
 	return d.World, a.Aid, api.OK
 }

@@ -6,6 +6,7 @@ import (
 	"slices"
 
 	"proteus/api"
+	"proteus/copies"
 )
 
 // oid and aid are numbers of objects and of activations. A reference is one of each, of which one is 0.
@@ -176,7 +177,7 @@ func (k *walk) world() api.World {
 	w := api.World{
 		Objs:    make([]api.Obj, len(k.objs.news)),
 		Acts:    make([]api.Act, len(k.acts.news)),
-		Codes:   allCopied(k.Codes, copiedCode),
+		Codes:   copies.All(k.Codes, copies.Code),
 		NextObj: k.objs.next,
 		NextAct: k.acts.next,
 	}
@@ -194,7 +195,7 @@ func (k *walk) world() api.World {
 }
 
 func (k *walk) movedObject(old *api.Obj, n int) api.Obj {
-	o := copiedObject(*old)
+	o := copies.Object(*old)
 	o.Oid = n
 	for i := range o.Slots {
 		o.Slots[i].V = k.moved(o.Slots[i].V)
@@ -205,7 +206,7 @@ func (k *walk) movedObject(old *api.Obj, n int) api.Obj {
 }
 
 func (k *walk) movedActivation(old *api.Act, n int) api.Act {
-	a := copiedActivation(*old)
+	a := copies.Activation(*old)
 	a.Aid = n
 	a.Self = k.moved(a.Self)
 	a.Holder = k.objs.news[oid(a.Holder)]
